@@ -1239,11 +1239,12 @@ func checkWrongWorld(t *testing.T, what string, w impl.World) {
 	checkPlayIs(t, w, someActs(), impl.World{})
 }
 
-func TestWorldsThatAreNotRight(t *testing.T) {
-	w := busyWorld(t)
+// wrongWorlds are wrong in one way each; made from the busy World, or one with the same Houses and View.
+func wrongWorlds(t *testing.T, w impl.World) map[string]impl.World {
+	t.Helper()
 	by := func(changes ...func(*impl.World)) impl.World { return worldBy(w, all(changes...)) }
 	other := replayedHouse(t, 5, busyLog()[:13], 3)
-	for what, wrong := range map[string]impl.World{
+	return map[string]impl.World{
 		"the zero World":                      {},
 		"a View alone":                        {View: viewOf(1, 0)},
 		"no Houses":                           by(func(w *impl.World) { w.Houses = nil }),
@@ -1268,7 +1269,12 @@ func TestWorldsThatAreNotRight(t *testing.T) {
 		"600 Events":                          by(func(w *impl.World) { w.Told = eventsLong(600) }),
 		"61 letters":                          by(postIs(lettersLong(61)...)),
 		"120 letters":                         by(postIs(lettersLong(120)...)),
-	} {
+	}
+}
+
+func TestWorldsThatAreNotRight(t *testing.T) {
+	w := busyWorld(t)
+	for what, wrong := range wrongWorlds(t, w) {
 		checkWrongWorld(t, what, wrong)
 	}
 	for _, v := range someWrongViews() {
